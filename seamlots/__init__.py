@@ -1,0 +1,1 @@
+"""Seamlots: words cut in two."""

@@ -1,0 +1,55 @@
+"""The examples of the document's interface, as written, and those of README.md."""
+
+import doctest
+import pathlib
+import unittest
+
+STAGES = {
+    "machines": """
+>>> from seamlots.machines import is_machine, is_word, standing_of, takes
+>>> machine = (2, ((1, 2), (2, 0), (2, 2)), (0,))
+>>> [is_machine(machine), is_machine((2, ((1,), (0,)), ())), is_word(machine, 'abc')]
+[True, False, False]
+>>> [standing_of(machine, 'aba'), takes(machine, 'abab'), takes(machine, 'aab'), takes(machine, '')]
+[1, True, False, True]
+""",
+    "smallest": """
+>>> from seamlots.smallest import parting_word, smallest
+>>> one = (1, ((1,), (2,), (3,), (0,)), (1, 3))
+>>> [smallest(one), parting_word(one, (1, ((1,), (0,)), (1,))), parting_word(one, (1, ((1,), (1,)), (1,)))]
+[(1, ((1,), (0,)), (1,)), None, 'aa']
+""",
+    "cuts": """
+>>> from seamlots.cuts import cuttings, failing_word, first_lot, is_idle, second_lot
+>>> machine = (2, ((0, 1), (1, 1)), (1,))
+>>> [first_lot(machine, (0,)), second_lot(machine, (0, 1)), is_idle(machine, (0,))]
+[(2, ((0, 1), (1, 1)), (0,)), (2, ((0, 1), (1, 1)), (1,)), False]
+>>> [cuttings(machine, (0,), 'aba'), failing_word(machine, (0,)), failing_word((1, ((1,), (2,), (2,)), (1,)), (0,))]
+[[0, 1], None, None]
+>>> [cuttings(machine, (1,), 'aba'), failing_word(machine, (1,)), failing_word(machine, (0, 1))]
+[[2, 3], None, None]
+""",
+}
+
+
+class Examples(unittest.TestCase):
+    def check(self, text, name):
+        printed = []
+        test = doctest.DocTestParser().get_doctest(text, {}, name, None, 0)
+        told = doctest.DocTestRunner(verbose=False).run(test, out=printed.append)
+        self.assertEqual(told.failed, 0, "".join(printed))
+        self.assertGreater(told.attempted, 1)
+
+    def test_stages(self):
+        for name, text in STAGES.items():
+            with self.subTest(name):
+                self.check(text, name)
+
+    def test_readme(self):
+        readme = pathlib.Path(__file__).resolve().parent.parent / "README.md"
+        # A fence ends an example, which doctest does not know.
+        self.check(readme.read_text().replace("```", ""), "README.md")
+
+
+if __name__ == "__main__":
+    unittest.main()

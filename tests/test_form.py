@@ -1,0 +1,55 @@
+"""The form of the package: its files, their sizes, and where the interface is defined."""
+
+import ast
+import pathlib
+import unittest
+
+PACKAGE = pathlib.Path(__file__).resolve().parent.parent / "seamlots"
+INTERFACE = {
+    "wrongs": ["SeamError", "NoMachine", "NoWord", "NotAlike", "NoCut", "NoChain", "NotClosed", "NoPattern",
+               "NoLetters", "NoLengths", "NoWay", "NoRecord", "NoName", "NameTaken", "UnknownName", "NoMark",
+               "TooMany"],
+    "machines": ["is_machine(value)", "is_word(machine, value)", "standing_of(machine, word)",
+                 "takes(machine, word)"],
+    "smallest": ["parting_word(one, other)", "smallest(machine)"],
+    "cuts": ["is_cut(machine, value)", "first_lot(machine, cut)", "second_lot(machine, cut)",
+             "is_idle(machine, cut)", "cuttings(machine, cut, word)", "failing_word(machine, cut)"],
+}
+
+
+class Form(unittest.TestCase):
+    def files(self):
+        return sorted(path for path in PACKAGE.rglob("*") if "__pycache__" not in path.parts)
+
+    def test_files(self):
+        for path in self.files():
+            text = path.read_text()
+            with self.subTest(path.name):
+                self.assertEqual(path.suffix, ".py")
+                self.assertLessEqual(len(text.splitlines()), 399)
+                self.assertLessEqual(max(map(len, text.splitlines())), 120)
+                self.assertEqual([sign for sign in text if sign != "\n" and not " " <= sign <= "~"], [])
+
+    def test_functions_have_at_most_40_lines(self):
+        for path in self.files():
+            for node in ast.walk(ast.parse(path.read_text())):
+                if isinstance(node, ast.FunctionDef):
+                    self.assertLessEqual(node.end_lineno - node.lineno + 1, 40, node.name)
+
+    def test_only_modules_of_the_package_are_imported(self):
+        for path in self.files():
+            for node in ast.walk(ast.parse(path.read_text())):
+                self.assertNotIsInstance(node, ast.Import)
+                if isinstance(node, ast.ImportFrom):
+                    self.assertTrue(node.module.startswith("seamlots."))
+
+    def test_the_interface_is_defined_where_it_is_listed(self):
+        for name, listed in INTERFACE.items():
+            body = ast.parse((PACKAGE / (name + ".py")).read_text()).body
+            defined = [node.name for node in body if isinstance(node, ast.ClassDef)]
+            defined += [f"{node.name}({ast.unparse(node.args)})" for node in body if isinstance(node, ast.FunctionDef)]
+            self.assertEqual([told for told in listed if told not in defined], [])
+
+
+if __name__ == "__main__":
+    unittest.main()
