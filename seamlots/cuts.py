@@ -1,6 +1,6 @@
 """Cuts of machines, their lots, and the words that can't be cut."""
 
-from seamlots.machines import LETTERS, are_standings, check_few, check_machine, check_word, standings_along
+from seamlots.machines import LETTERS, are_standings, check_few, check_machine, check_word, standings_along, takes
 from seamlots.search import least_word
 from seamlots.smallest import smallest, smallest_of
 from seamlots.wrongs import NoCut
@@ -17,25 +17,20 @@ def is_cut(machine, value):
 
 def first_lot(machine, cut):
     """The smallest machine of the first lot."""
-    _check_cut_of_few(machine, cut)
+    check_cut_of_few(machine, cut)
     letters, moves, _ = machine
     return smallest((letters, moves, cut))
 
 
 def second_lot(machine, cut):
     """The smallest machine of the second lot."""
-    _check_cut_of_few(machine, cut)
-    letters, moves, ends = machine
-    return smallest_of(
-        letters,
-        cut,
-        lambda part, number: led_on(moves, part, number),
-        lambda part: is_within(part, ends))
+    check_cut_of_few(machine, cut)
+    return lot_between(machine, cut, machine[2])
 
 
 def is_idle(machine, cut):
     """True if the first lot or the second lot has no word but, perhaps, the empty one, otherwise False."""
-    return not _has_longer_word(first_lot(machine, cut)) or not _has_longer_word(second_lot(machine, cut))
+    return not has_longer_word(first_lot(machine, cut)) or not has_longer_word(second_lot(machine, cut))
 
 
 def cuttings(machine, cut, word):
@@ -58,7 +53,7 @@ def cuttings(machine, cut, word):
 
 def failing_word(machine, cut):
     """The least failing word, or None if the cut splits the machine."""
-    _check_cut_of_few(machine, cut)
+    check_cut_of_few(machine, cut)
     letters, moves, ends = machine
     return least_word(
         letters,
@@ -73,6 +68,44 @@ def check_cut(machine, value):
         raise NoCut("this is no cut of the machine")
 
 
+def check_cut_of_few(machine, cut):
+    """Raises what is due if this is no machine, no cut of it, or a machine with too many standings to be cut."""
+    check_machine(machine)
+    check_cut(machine, cut)
+    check_few(machine, MOST_CUT_STANDINGS)
+
+
+def all_cuts(machine):
+    """The ascending list of all cuts of the machine."""
+    cuts = []
+    for standing in range(len(machine[1]) - 1, -1, -1):
+        # The cuts so far have later standings only, so all that have this one come ahead of them.
+        cuts = [(standing,)] + [(standing,) + cut for cut in cuts] + cuts
+    return cuts
+
+
+def is_failing(machine, cut, word):
+    """True if the word is a failing word of the cut, otherwise False."""
+    return takes(machine, word) and not cuttings(machine, cut, word)
+
+
+def lot_between(machine, part, goals):
+    """The smallest machine of the words that lead from each standing of the part to one of the goals."""
+    letters, moves, _ = machine
+    return smallest_of(
+        letters,
+        part,
+        lambda led, number: led_on(moves, led, number),
+        lambda led: is_within(led, goals))
+
+
+def has_longer_word(lot):
+    """True if the lot, a smallest machine, takes a word that is not empty, otherwise False."""
+    # A smallest machine reaches all its standings, so a letter that leads to an end makes a word that is taken.
+    _, moves, ends = lot
+    return any([end in row for row in moves for end in ends])
+
+
 def led_on(moves, part, number):
     """The ascending tuple of the standings to which the letter of that number leads from those of the part."""
     return tuple(sorted({moves[standing][number] for standing in part}))
@@ -81,6 +114,17 @@ def led_on(moves, part, number):
 def is_within(part, whole):
     """True if all standings of the part are among those of the whole, otherwise False."""
     return all([standing in whole for standing in part])
+
+
+def is_any_within(parts, whole):
+    """True if all standings of one of the parts are among those of the whole, otherwise False."""
+    return any([is_within(part, whole) for part in parts])
+
+
+def inmost(parts):
+    """The ascending tuple of the parts without those that have another one of them within them."""
+    # Where a part leads to ends alone, those within it do so too: only the inmost ones can tell.
+    return tuple(sorted({part for part in parts if not _has_one_within(part, parts)}))
 
 
 def first_row(cut):
@@ -97,18 +141,13 @@ def next_row(moves, cut, row, number):
 def is_bad(row, ends):
     """True if the words of the row are taken and can't be cut at any place, otherwise False."""
     standing, parts = row
-    return standing in ends and not any([is_within(part, ends) for part in parts])
+    return standing in ends and not is_any_within(parts, ends)
 
 
 def _row(standing, parts, cut):
     if standing in cut:
         parts = parts + [cut]
-    return (standing, _inmost(parts))
-
-
-def _inmost(parts):
-    # Where a part leads to ends alone, those within it do so too: only the inmost ones can tell.
-    return tuple(sorted({part for part in parts if not _has_one_within(part, parts)}))
+    return (standing, inmost(parts))
 
 
 def _has_one_within(part, parts):
@@ -119,17 +158,5 @@ def _led_into(moves, part, number):
     return tuple([standing for standing, row in enumerate(moves) if row[number] in part])
 
 
-def _has_longer_word(lot):
-    # A smallest machine reaches all its standings, so a letter that leads to an end makes a word that is taken.
-    _, moves, ends = lot
-    return any([end in row for row in moves for end in ends])
-
-
 def _has_cut(machine, value):
     return are_standings(value, len(machine[1])) and len(value) > 0
-
-
-def _check_cut_of_few(machine, cut):
-    check_machine(machine)
-    check_cut(machine, cut)
-    check_few(machine, MOST_CUT_STANDINGS)

@@ -1,7 +1,7 @@
 """Searches among states to which words lead and that are made only when they are found.
 
 A state is anything that can be the key of a dict. Letters are numbered from 0 here: step(state, number) is the state
-to which the letter of that number leads. Both searches go on by one letter after the other from the states in the
+to which the letter of that number leads. All searches go on by one letter after the other from the states in the
 order in which they were found: so the first word that finds a state is the least one that leads to it.
 """
 
@@ -28,17 +28,34 @@ def all_states(letters, start, step):
 
 def least_word(letters, start, step, is_goal):
     """The least word that leads from the start to a goal, or None."""
-    words = {start: ""}
-    states = [start]
+    return least_word_of_some(letters, [start], lambda state, number: [step(state, number)], is_goal)
+
+
+def least_word_of_some(letters, starts, steps, is_goal):
+    """The least word that can lead from a start to a goal, or None; steps tells all states to which a letter can."""
+    seen = {state: True for state in starts}
+    # What one word finds is looked at together: else the words would not come in their order.
+    groups = [("", starts)]
     at = 0
-    while at < len(states):
-        state = states[at]
-        if is_goal(state):
-            return words[state]
+    while at < len(groups):
+        word, states = groups[at]
+        if any([is_goal(state) for state in states]):
+            return word
         for number in range(letters):
-            found = step(state, number)
-            if found not in words:
-                words[found] = words[state] + LETTERS[number]
-                states.append(found)
+            found = []
+            for state in states:
+                for to in steps(state, number):
+                    if to not in seen:
+                        seen[to] = True
+                        found.append(to)
+            if found:
+                groups.append((word + LETTERS[number], found))
         at += 1
     return None
+
+
+def step_of_pairs(one, other):
+    """The step that leads the first standing of a pair in the machine one, and the second standing in the other."""
+    one_moves = one[1]
+    other_moves = other[1]
+    return lambda pair, number: (one_moves[pair[0]][number], other_moves[pair[1]][number])

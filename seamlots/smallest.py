@@ -1,7 +1,7 @@
 """Parting words and smallest machines."""
 
 from seamlots.machines import MOST_STANDINGS, check_alike, check_machine
-from seamlots.search import all_states, least_word
+from seamlots.search import all_states, least_word, step_of_pairs
 from seamlots.wrongs import TooMany
 
 
@@ -10,16 +10,11 @@ def parting_word(one, other):
     check_machine(one)
     check_machine(other)
     check_alike(one, other)
-    letters, one_moves, one_ends = one
-    _, other_moves, other_ends = other
-
-    def step(pair, number):
-        return (one_moves[pair[0]][number], other_moves[pair[1]][number])
-
-    def is_parted(pair):
-        return (pair[0] in one_ends) != (pair[1] in other_ends)
-
-    return least_word(letters, (0, 0), step, is_parted)
+    return least_word(
+        one[0],
+        (0, 0),
+        step_of_pairs(one, other),
+        lambda pair: (pair[0] in one[2]) != (pair[1] in other[2]))
 
 
 def smallest(machine):

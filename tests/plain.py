@@ -3,6 +3,7 @@
 Nothing here is taken from the package, so that a fault of the package is not repeated here.
 """
 
+import functools
 import itertools
 import random
 
@@ -50,8 +51,15 @@ def less(one, other):
     return (len(one), one) < (len(other), other)
 
 
-def walked(letters, start, step):
-    """A dict of all states to which words lead from the start, each with its least word; step takes a letter."""
+def least(some_words):
+    return min(some_words, key=lambda word: (len(word), word), default=None)
+
+
+def walked(letters, start, step, most=None):
+    """A dict of all states to which words lead from the start, each with its least word; step takes a letter.
+
+    LookupError if there are more than so many states.
+    """
     told = {start: ""}
     rim = [start]
     while rim:
@@ -63,14 +71,19 @@ def walked(letters, start, step):
                 if to not in told and (to not in found or less(word, found[to])):
                     found[to] = word
         told.update(found)
+        if most is not None and len(told) > most:
+            raise LookupError
         rim = sorted(found, key=lambda state: found[state])
     return told
 
 
+def pairs(one, other, start=(0, 0)):
+    """All pairs of standings to which a word leads in the two machines, each with its least word."""
+    return walked(one[0], start, lambda pair, letter: (led(one, pair[0], letter), led(other, pair[1], letter)))
+
+
 def parting_word(one, other):
-    pairs = walked(one[0], (0, 0), lambda pair, letter: (led(one, pair[0], letter), led(other, pair[1], letter)))
-    parted = [word for pair, word in pairs.items() if (pair[0] in one[2]) != (pair[1] in other[2])]
-    return min(parted, key=lambda word: (len(word), word), default=None)
+    return least(word for pair, word in pairs(one, other).items() if (pair[0] in one[2]) != (pair[1] in other[2]))
 
 
 def is_smallest(machine):
@@ -132,21 +145,160 @@ def is_idle(machine, cut):
 
 def failing_word(machine, cut, most):
     """The least failing word, or None; LookupError if more than so many states would be looked at."""
-    def step(state, letter):
-        standing = led(machine, state[0], letter)
-        sets = {frozenset(led(machine, one, letter) for one in part) for part in state[1]}
-        if standing in cut:
-            sets.add(frozenset(cut))
-        seen.add((standing, frozenset(sets)))
-        if len(seen) > most:
-            raise LookupError
-        return standing, frozenset(sets)
-    seen = set()
-    start = (0, frozenset([frozenset(cut)] if 0 in cut else []))
+    def state(standing, sets):
+        return standing, sets | ({frozenset(cut)} if standing in cut else set())
+
+    def step(told, letter):
+        return state(led(machine, told[0], letter), all_led(machine, told[1], letter))
     ends = frozenset(machine[2])
-    failing = [word for state, word in walked(machine[0], start, step).items()
-               if state[0] in ends and not any(part <= ends for part in state[1])]
-    return min(failing, key=lambda word: (len(word), word), default=None)
+    return least(word for told, word in walked(machine[0], state(0, frozenset()), step, most).items()
+                 if told[0] in ends and not any(part <= ends for part in told[1]))
+
+
+def all_led(machine, sets, letter):
+    return frozenset(frozenset(led(machine, standing, letter) for standing in part) for part in sets)
+
+
+@functools.lru_cache(maxsize=None)
+def turns(machine):
+    """All tuples of the standings to which a word leads from all standings, one by one, each with its least word."""
+    return walked(machine[0], tuple(range(len(machine[1]))),
+                  lambda turn, letter: tuple(led(machine, standing, letter) for standing in turn))
+
+
+@functools.lru_cache(maxsize=None)
+def short_turns(machine):
+    """For each short word, the less ones first, the tuple of the standings to which it leads from all standings."""
+    short = words(machine[0], {1: 9, 2: 5, 3: 3}[machine[0]])
+    return {word: tuple(led(machine, standing, word) for standing in range(len(machine[1]))) for word in short}
+
+
+def short_words(machine):
+    return list(short_turns(machine))
+
+
+def short_cuttings(machine, cut, word):
+    """As cuttings, for a short word."""
+    told = short_turns(machine)
+    ends = machine[2]
+    if told[word][0] not in ends:
+        return []
+    return [place for place in range(len(word) + 1) if told[word[:place]][0] in cut
+            and all(told[word[place:]][standing] in ends for standing in cut)]
+
+
+def short_failing_words(machine, cut):
+    return [word for word, turn in short_turns(machine).items()
+            if turn[0] in machine[2] and not short_cuttings(machine, cut, word)]
+
+
+@functools.lru_cache(maxsize=None)
+def cuts_not_idle(machine):
+    return tuple(cut for cut in cuts(machine) if not is_idle(machine, cut))
+
+
+def is_no_product(machine, value):
+    wanted = cuts_not_idle(machine)
+    return type(value) is list and len(value) == len(wanted) and all(
+        type(row) is tuple and len(row) == 2 and is_cut(machine, row[0]) and row[0] == cut
+        and is_word(machine, row[1]) and takes(machine, row[1]) and not cuttings(machine, cut, row[1])
+        for cut, row in zip(wanted, value))
+
+
+def is_word(machine, value):
+    return type(value) is str and set(value) <= set("abc"[:machine[0]])
+
+
+def widened(machine, cut):
+    ends = machine[2]
+    behind = [turn for turn in turns(machine) if all(turn[standing] in ends for standing in cut)]
+    return tuple(standing for standing in range(len(machine[1])) if all(turn[standing] in ends for turn in behind))
+
+
+def double_word(machine, cut, most):
+    """The least double word, or None; LookupError if more than so many states would be looked at."""
+    def state(standing, many):
+        many = dict(many)
+        if standing in cut:
+            many[cut] = min(2, many.get(cut, 0) + 1)
+        return standing, frozenset(many.items())
+
+    def step(told, letter):
+        many = {}
+        for part, times in told[1]:
+            to = tuple(sorted({led(machine, standing, letter) for standing in part}))
+            many[to] = min(2, many.get(to, 0) + times)
+        return state(led(machine, told[0], letter), many)
+    return least(word for told, word in walked(machine[0], state(0, {}), step, most).items()
+                 if sum(times for part, times in told[1] if set(part) <= set(machine[2])) >= 2)
+
+
+def reached_by(machine, first):
+    return tuple(sorted({standing for standing, own in pairs(machine, first) if own in first[2]}))
+
+
+def ahead_of(machine, second):
+    """The standings from which all words of the second machine lead to ends."""
+    return [standing for standing in range(len(machine[1])) if all(
+        to in machine[2] for to, own in pairs(machine, second, (standing, 0)) if own in second[2])]
+
+
+def lacking_word(machine, first, most):
+    """The least lacking word, or None; LookupError if more than so many states would be looked at."""
+    reached = frozenset(reached_by(machine, first))
+
+    def state(standing, own, sets):
+        return standing, own, sets | ({reached} if own in first[2] else set())
+
+    def step(told, letter):
+        standing, own, sets = told
+        return state(led(machine, standing, letter), led(first, own, letter), all_led(machine, sets, letter))
+    ends = frozenset(machine[2])
+    return least(word for told, word in walked(machine[0], state(0, 0, frozenset()), step, most).items()
+                 if told[0] in ends and not any(part <= ends for part in told[2]))
+
+
+def in_middle(machine, cut, later, word):
+    return all(led(machine, standing, word) in later for standing in cut)
+
+
+def short_failing_threes(machine, cut, later):
+    """All short words that the machine takes and that are no words of the three lots, one behind the other."""
+    told = short_turns(machine)
+    firsts = {word for word, turn in told.items() if turn[0] in cut}
+    middles = {word for word, turn in told.items() if all(turn[standing] in later for standing in cut)}
+    lasts = {word for word, turn in told.items() if all(turn[standing] in machine[2] for standing in later)}
+
+    def is_made(word):
+        places = range(len(word) + 1)
+        return any(word[:one] in firsts and word[one:other] in middles and word[other:] in lasts
+                   for one in places for other in places[one:])
+    return [word for word, turn in told.items() if turn[0] in machine[2] and not is_made(word)]
+
+
+def failing_three(machine, cut, later, most):
+    """The least failing word of three lots, or None; LookupError if more than so many states would be looked at."""
+    def state(standing, middles, lasts):
+        middles = middles | ({frozenset(cut)} if standing in cut else set())
+        ready = any(part <= set(later) for part in middles)
+        return standing, middles, lasts | ({frozenset(later)} if ready else set())
+
+    def step(told, letter):
+        standing, middles, lasts = told
+        return state(led(machine, standing, letter), all_led(machine, middles, letter),
+                     all_led(machine, lasts, letter))
+    ends = frozenset(machine[2])
+    return least(word for told, word in walked(machine[0], state(0, frozenset(), frozenset()), step, most).items()
+                 if told[0] in ends and not any(part <= ends for part in told[2]))
+
+
+def is_idle_three(machine, cut, later):
+    ends = machine[2]
+    longer = {step for turn in turns(machine) for step in (
+        tuple(led(machine, standing, letter) for standing in turn) for letter in "abc"[:machine[0]])}
+    return not (any(turn[0] in cut for turn in longer)
+                and any(all(turn[standing] in later for standing in cut) for turn in longer)
+                and any(all(turn[standing] in ends for standing in later) for turn in longer))
 
 
 def some_machine(rng, letters, many):
@@ -220,6 +372,81 @@ TOLD_MACHINES = [
     (1, ((1,), (2,), (2,)), (1,)),
     (1, ((1,), (2,), (3,), (3,)), (1, 2)),
 ]
+
+
+WELL_KNOWN = [
+    # No word, the empty word alone, all words, all words but the empty one.
+    (2, ((0, 0),), ()),
+    (2, ((1, 1), (1, 1)), (0,)),
+    (3, ((0, 0, 0),), (0,)),
+    (2, ((1, 1), (1, 1)), (1,)),
+    # Any number of a's with any number of b's behind them, and with a c behind these.
+    (2, ((0, 1), (2, 1), (2, 2)), (0, 1)),
+    (3, ((0, 1, 2), (3, 1, 2), (3, 3, 3), (3, 3, 3)), (2,)),
+    # Any number of ab's; all words with an aba in them; all words that end with ab.
+    (2, ((1, 2), (2, 0), (2, 2)), (0,)),
+    (2, ((1, 0), (1, 2), (3, 0), (3, 3)), (3,)),
+    (2, ((1, 0), (1, 2), (1, 0)), (2,)),
+    # An even number of a's and of b's; all words with as many letters as can be divided by five.
+    (2, ((1, 2), (0, 3), (3, 0), (2, 1)), (0,)),
+    (2, ((1, 1), (2, 2), (3, 3), (4, 4), (0, 0)), (0,)),
+    # Just ab and ba; just aa, ab and ba; at most four letters; one, two or four letters; two or three letters.
+    (2, ((1, 2), (4, 3), (3, 4), (4, 4), (4, 4)), (3,)),
+    (2, ((1, 2), (3, 3), (3, 4), (4, 4), (4, 4)), (3,)),
+    (1, ((1,), (2,), (3,), (4,), (4,)), (0, 1, 2, 3)),
+    (1, ((1,), (2,), (3,), (2,), (4,)), (1, 2)),
+    (2, ((1, 1), (2, 2), (3, 3), (4, 4), (4, 4)), (2, 3)),
+    # A standing that is never reached, and one from which no word is taken.
+    (2, ((0, 1), (1, 1), (0, 2)), (1, 2)),
+    (1, ((1,), (2,), (2,), (1,)), (1, 3)),
+]
+
+# Machines that are no products, though some of their cuts are not idle; some with long least failing words.
+PRIMES = [
+    (1, ((1,), (2,), (3,), (4,), (4,)), (0, 3)),
+    (1, ((1,), (2,), (3,), (4,), (4,)), (0, 1, 3)),
+    (1, ((2,), (3,), (3,), (1,)), (0, 2, 3)),
+    (1, ((4,), (4,), (3,), (2,), (2,)), (0, 1, 2, 4)),
+    (1, ((4,), (3,), (1,), (2,), (3,)), (0, 3, 4)),
+    (2, ((1, 1), (2, 3), (3, 2), (1, 1)), (0, 1, 2)),
+    (2, ((1, 2), (4, 3), (3, 4), (4, 4), (4, 4)), (3,)),
+    (2, ((1, 4), (3, 2), (3, 3), (4, 4), (4, 4)), (0, 1, 2, 3)),
+    (2, ((2, 1), (3, 4), (3, 4), (4, 3), (4, 4)), (2, 3)),
+    (2, ((3, 1), (3, 2), (2, 4), (4, 3), (4, 4)), (0, 1, 2, 3)),
+    (2, ((3, 1), (3, 4), (2, 4), (3, 4), (4, 2)), (1, 4)),
+    (2, ((4, 1), (3, 2), (2, 4), (1, 3), (4, 2)), (0, 1, 2, 3)),
+    (2, ((2, 4), (3, 2), (1, 4), (4, 3), (4, 4)), (0, 1, 2, 3)),
+    (2, ((3, 4), (1, 2), (2, 3), (4, 1), (4, 4)), (0, 2, 3)),
+    (3, ((4, 3, 1), (4, 2, 2), (3, 3, 3), (4, 4, 4), (4, 4, 4)), (2, 3)),
+    (3, ((3, 4, 3), (2, 2, 2), (4, 2, 4), (1, 4, 3), (4, 4, 4)), (0, 1, 2, 3)),
+    (3, ((1, 4, 1), (1, 1, 2), (4, 1, 3), (3, 3, 4), (4, 4, 4)), (0, 1, 2, 3)),
+]
+
+
+def one_way(rng, letters, many):
+    """A drawn machine of two standings or more, to whose standing 0 no letter leads: few of these are split simply."""
+    moves = tuple(tuple(rng.randrange(1, many) for _ in range(letters)) for _ in range(many))
+    return letters, moves, tuple(sorted(rng.sample(range(many), rng.randrange(1, many))))
+
+
+def lot_machines():
+    """Machines of one to five standings, well-known and drawn ones."""
+    rng = random.Random(41)
+    drawn = [draw(rng, letters, many) for letters in (1, 2, 3) for many in (2, 3, 4, 5) for draw in (
+        some_machine, one_way) for _ in range(6)]
+    small = [machine for letters, most in ((1, 2), (2, 1)) for many in range(1, most + 1)
+             for machine in all_machines(letters, many)]
+    return small + drawn + TOLD_MACHINES + WELL_KNOWN + PRIMES
+
+
+def ring(many, ends, letters=1):
+    """A machine in which each letter leads to the standing behind, and from the last one to 0."""
+    return letters, tuple(((at + 1) % many,) * letters for at in range(many)), tuple(ends)
+
+
+def row(many, ends, letters=1):
+    """A machine in which each letter leads to the standing behind, and from the last one to itself."""
+    return letters, tuple((min(at + 1, many - 1),) * letters for at in range(many)), tuple(ends)
 
 
 def nested(deep, kind=tuple):

@@ -29,6 +29,36 @@ STAGES = {
 >>> [cuttings(machine, (1,), 'aba'), failing_word(machine, (1,)), failing_word(machine, (0, 1))]
 [[2, 3], None, None]
 """,
+    "products": """
+>>> from seamlots.products import is_no_product, is_product, no_product, splitting_cuts
+>>> machine = (1, ((1,), (2,), (3,), (3,)), (1, 2))
+>>> [splitting_cuts(machine), is_product(machine), no_product(machine)]
+[[(0, 1), (1,)], True, None]
+>>> machine = (1, ((1,), (2,), (2,)), (1,))
+>>> [splitting_cuts(machine), no_product(machine), is_no_product(machine, [])]
+[[], [], True]
+""",
+    "widened": """
+>>> from seamlots.widened import closed_cuts, double_word, widened
+>>> machine = (2, ((0, 1), (1, 1)), (1,))
+>>> [widened(machine, (0,)), widened(machine, (1,)), closed_cuts(machine), double_word(machine, (0,))]
+[(0, 1), (1,), [(0, 1), (1,)], 'ab']
+""",
+    "told": """
+>>> from seamlots.told import head_of, lacking_word, reached_by, rest_of
+>>> machine = (1, ((1,), (2,), (3,), (3,)), (1, 2))
+>>> first = (1, ((1,), (2,), (2,)), (1,))
+>>> [reached_by(machine, first), rest_of(machine, first), lacking_word(machine, first)]
+[(1,), (1, ((1,), (2,), (2,)), (0, 1)), None]
+>>> [head_of(machine, first), lacking_word(machine, machine)]
+[(1, ((1,), (2,), (2,)), (0, 1)), None]
+""",
+    "threes": """
+>>> from seamlots.threes import failing_three, middle_lot, three_cuts
+>>> machine = (1, ((1,), (2,), (3,), (3,)), (2,))
+>>> [middle_lot(machine, (0,), (1,)), failing_three(machine, (0,), (1,)), three_cuts(machine)]
+[(1, ((1,), (2,), (2,)), (1,)), None, []]
+""",
 }
 
 

@@ -14,6 +14,12 @@ INTERFACE = {
     "smallest": ["parting_word(one, other)", "smallest(machine)"],
     "cuts": ["is_cut(machine, value)", "first_lot(machine, cut)", "second_lot(machine, cut)",
              "is_idle(machine, cut)", "cuttings(machine, cut, word)", "failing_word(machine, cut)"],
+    "products": ["splitting_cuts(machine)", "is_product(machine)", "no_product(machine)",
+                 "is_no_product(machine, value)"],
+    "widened": ["widened(machine, cut)", "closed_cuts(machine)", "double_word(machine, cut)"],
+    "told": ["reached_by(machine, first)", "rest_of(machine, first)", "head_of(machine, second)",
+             "lacking_word(machine, first)"],
+    "threes": ["middle_lot(machine, cut, later)", "failing_three(machine, cut, later)", "three_cuts(machine)"],
 }
 
 

@@ -4,37 +4,56 @@ import copy
 import itertools
 import unittest
 
-from seamlots import cuts, machines, smallest
+from seamlots import cuts, machines, products, smallest, threes, told, widened
 from seamlots.wrongs import NoCut, NoMachine, NotAlike, NoWord, SeamError, TooMany
 from tests import plain
 
 FEW = (2, ((0, 1), (1, 1)), (1,))
+FOUR = (2, ((1, 2), (2, 3), (3, 0), (0, 1)), (0, 3))
 FIVE = (2, ((1, 2), (2, 3), (3, 4), (4, 0), (0, 1)), (0, 3))
 SIX = (2, ((1, 2), (2, 3), (3, 4), (4, 5), (5, 0), (0, 1)), (0, 3))
+GREAT = plain.ring(32, (0, 7), 2)
 OTHER_LETTERS = (1, ((1,), (0,)), (0,))
+GREAT_OTHER_LETTERS = plain.ring(32, (0, 7), 3)
 
 NO_MACHINES = [None, [], (), "ab", 3, True, (2, ((0, 1), (1, 1)), [1]), (2, ((0, True), (1, 1)), (1,)),
                plain.nested(29, list), (2, ((0, 1), (1, 2)), (1,)), [2, ((0, 1), (1, 1)), (1,)]]
-NO_CUTS = [None, [], (), "0", 0, True, [0], (1, 0), (0, 0), (True,), (0, 9), (-1,), plain.nested(29), ([0],)]
+NO_CUTS = [None, [], (), "0", 0, True, [0], (1, 0), (0, 0), (True,), (0, 99), (-1,), plain.nested(29), ([0],)]
 NO_WORDS = [None, [], (), 0, True, ["a"], ("a",), "c", "abc", "A", "a b", plain.nested(29, list)]
 
+# Each function with its kinds of arguments and with the most standings that its machine may have.
 ASKED = [
-    (machines.is_word, ("machine", "value"), False),
-    (machines.standing_of, ("machine", "word"), False),
-    (machines.takes, ("machine", "word"), False),
-    (smallest.parting_word, ("machine", "other"), False),
-    (smallest.smallest, ("machine",), False),
-    (cuts.is_cut, ("machine", "value"), True),
-    (cuts.first_lot, ("machine", "cut"), True),
-    (cuts.second_lot, ("machine", "cut"), True),
-    (cuts.is_idle, ("machine", "cut"), True),
-    (cuts.cuttings, ("machine", "cut", "word"), True),
-    (cuts.failing_word, ("machine", "cut"), True),
+    (machines.is_word, ("machine", "value"), 32),
+    (machines.standing_of, ("machine", "word"), 32),
+    (machines.takes, ("machine", "word"), 32),
+    (smallest.parting_word, ("machine", "other"), 32),
+    (smallest.smallest, ("machine",), 32),
+    (cuts.is_cut, ("machine", "value"), 5),
+    (cuts.first_lot, ("machine", "cut"), 5),
+    (cuts.second_lot, ("machine", "cut"), 5),
+    (cuts.is_idle, ("machine", "cut"), 5),
+    (cuts.cuttings, ("machine", "cut", "word"), 5),
+    (cuts.failing_word, ("machine", "cut"), 5),
+    (products.splitting_cuts, ("machine",), 5),
+    (products.is_product, ("machine",), 5),
+    (products.no_product, ("machine",), 5),
+    (products.is_no_product, ("machine", "value"), 5),
+    (widened.widened, ("machine", "cut"), 5),
+    (widened.closed_cuts, ("machine",), 5),
+    (widened.double_word, ("machine", "cut"), 5),
+    (told.reached_by, ("machine", "other"), 5),
+    (told.rest_of, ("machine", "other"), 5),
+    (told.head_of, ("machine", "other"), 5),
+    (told.lacking_word, ("machine", "other"), 5),
+    (threes.middle_lot, ("machine", "cut", "cut"), 4),
+    (threes.failing_three, ("machine", "cut", "cut"), 4),
+    (threes.three_cuts, ("machine",), 4),
 ]
 
 # For each kind of argument its right values, and its wrong ones with the error that is due for them.
-RIGHT = {"machine": [FEW, FIVE], "other": [FEW, SIX], "cut": [(0,), (1,), (0, 1)], "word": ["", "a", "abba"],
-         "value": [None, "a", "c", (0,), [0]]}
+RIGHT = {"machine": [FEW, FOUR, FIVE, SIX, GREAT], "other": [FEW, SIX, GREAT, (2, ((0, 0),), ())],
+         "cut": [(0,), (1,), (0, 1)], "word": ["", "a", "abba"],
+         "value": [None, "a", "c", (0,), [0], [], [((0,), "a")]]}
 WRONG = {"machine": (NO_MACHINES, NoMachine), "other": (NO_MACHINES, NoMachine), "cut": (NO_CUTS, NoCut),
          "word": (NO_WORDS, NoWord), "value": ([], None)}
 
@@ -42,40 +61,59 @@ WRONG = {"machine": (NO_MACHINES, NoMachine), "other": (NO_MACHINES, NoMachine),
 class Refusals(unittest.TestCase):
     def refused(self, asked, arguments):
         before = copy.deepcopy(arguments)
-        with self.assertRaises(SeamError) as told:
+        with self.assertRaises(SeamError) as refusal:
             asked(*arguments)
         self.assertEqual(repr(arguments), repr(before))
-        return told.exception
+        return refusal.exception
 
-    def test_the_first_wrong_argument_tells_the_error(self):
-        for asked, names, _ in ASKED:
-            rows = [[(value, None) for value in RIGHT[name]] + [(value, WRONG[name][1]) for value in WRONG[name][0]]
-                    for name in names]
-            for row in itertools.product(*rows):
+    def rows(self, names):
+        """All rows of right and wrong arguments, each argument with the error that is due for it, or None."""
+        return itertools.product(*[[(value, None) for value in RIGHT[name]] + [
+            (value, WRONG[name][1]) for value in WRONG[name][0]] for name in names])
+
+    def test_the_first_wrong_argument_tells_the_error_and_the_bound_comes_behind(self):
+        for asked, names, most in ASKED:
+            counted = {"refused": 0, "bounded": 0, "told": 0}
+            for row in self.rows(names):
                 errors = [error for _, error in row if error]
                 arguments = [value for value, _ in row]
                 with self.subTest(asked.__name__, arguments=arguments):
                     if errors:
+                        counted["refused"] += 1
                         self.assertIs(type(self.refused(asked, arguments)), errors[0])
-                    else:
-                        asked(*arguments)
-
-    def test_more_than_five_standings_behind_the_others(self):
-        for asked, names, is_limited in ASKED:
-            rows = [[(value, None) for value in RIGHT[name]] + [(value, WRONG[name][1]) for value in WRONG[name][0]]
-                    for name in names[1:]]
-            for row in itertools.product(*rows):
-                errors = [error for _, error in row if error]
-                arguments = [SIX] + [value for value, _ in row]
-                with self.subTest(asked.__name__, arguments=arguments):
-                    if errors:
-                        self.assertIs(type(self.refused(asked, arguments)), errors[0])
-                    elif is_limited:
+                    elif len(arguments[0][1]) > most:
+                        counted["bounded"] += 1
                         error = self.refused(asked, arguments)
                         self.assertIs(type(error), TooMany)
-                        self.assertEqual(error.limit, 5)
+                        self.assertEqual(error.limit, most)
                     else:
+                        counted["told"] += 1
                         asked(*arguments)
+            self.assertGreater(counted["refused"], 0)
+            self.assertEqual(counted["bounded"] > 0, most < 32)
+            self.assertGreater(counted["told"], 1)
+
+    def test_bounds(self):
+        for asked, names, most in ASKED:
+            for many in range(1, 33):
+                machine = plain.ring(many, (0,), 2)
+                rest = [{"cut": (0,), "word": "a", "value": None, "other": FEW}[name] for name in names[1:]]
+                if many <= most:
+                    asked(machine, *rest)
+                else:
+                    error = self.refused(asked, [machine] + rest)
+                    self.assertIs(type(error), TooMany)
+                    self.assertEqual(error.limit, most)
+                    self.assertIs(type(error.limit), int)
+
+    def test_any_values_for_each_argument(self):
+        for asked, names, _ in ASKED:
+            right = [RIGHT[name][0] for name in names]
+            for at, name in enumerate(names):
+                for value in plain.any_values():
+                    if name != "value" and not (name == "word" and value == ""):
+                        with self.assertRaises(WRONG[name][1]):
+                            asked(*right[:at], value, *right[at + 1:])
 
     def test_the_word_is_one_of_the_machine(self):
         for asked in (machines.standing_of, machines.takes):
@@ -83,34 +121,50 @@ class Refusals(unittest.TestCase):
         self.assertIs(type(self.refused(cuts.cuttings, [OTHER_LETTERS, (0,), "b"])), NoWord)
         self.assertIs(type(self.refused(cuts.cuttings, [OTHER_LETTERS, (2,), "b"])), NoCut)
 
-    def test_other_numbers_of_letters_behind_no_machine(self):
-        self.assertIs(type(self.refused(smallest.parting_word, [FEW, OTHER_LETTERS])), NotAlike)
-        self.assertIs(type(self.refused(smallest.parting_word, [OTHER_LETTERS, FEW])), NotAlike)
-        # What is no machine has no number of letters that could be another one.
-        for wrong in ((1, ((0, 0),), ()), (1, ((5,),), ()), (1, (), ())):
-            self.assertIs(type(self.refused(smallest.parting_word, [FEW, wrong])), NoMachine)
-            self.assertIs(type(self.refused(smallest.parting_word, [wrong, FEW])), NoMachine)
+    def test_cuts_are_of_the_machine(self):
+        for asked in (cuts.first_lot, cuts.failing_word, widened.widened, widened.double_word):
+            for machine, cut in ((FEW, (2,)), (FEW, (0, 2)), (FOUR, (4,)), (FIVE, (0, 5)), (SIX, (6,)), (GREAT, (32,))):
+                self.assertIs(type(self.refused(asked, [machine, cut])), NoCut)
+        for asked in (threes.middle_lot, threes.failing_three):
+            for machine, cut in ((FEW, (2,)), (FEW, (0, 2)), (FOUR, (4,)), (FIVE, (0, 5)), (SIX, (6,)), (GREAT, (32,))):
+                for arguments in ([machine, cut, (0,)], [machine, (0,), cut], [machine, cut, cut]):
+                    self.assertIs(type(self.refused(asked, arguments)), NoCut)
 
-    def test_five_standings_are_not_too_many(self):
+    def test_other_numbers_of_letters_behind_no_machine_and_ahead_of_the_bound(self):
+        for asked, names, _ in ASKED:
+            if names == ("machine", "other"):
+                for one in (FEW, FOUR, FIVE, SIX, GREAT):
+                    for other in (OTHER_LETTERS, GREAT_OTHER_LETTERS):
+                        self.assertIs(type(self.refused(asked, [one, other])), NotAlike)
+                        self.assertIs(type(self.refused(asked, [other, one])), NotAlike)
+                    # What is no machine has no number of letters that could be another one.
+                    for wrong in ((1, ((0, 0),), ()), (1, ((5,),), ()), (1, (), ()), (3, ((0, 0),), ())):
+                        self.assertIs(type(self.refused(asked, [one, wrong])), NoMachine)
+                        self.assertIs(type(self.refused(asked, [wrong, one])), NoMachine)
+
+    def test_five_and_four_standings_are_not_too_many(self):
         for cut in plain.cuts(FIVE):
             self.assertIs(cuts.is_cut(FIVE, cut), True)
-            cuts.first_lot(FIVE, cut)
-            cuts.second_lot(FIVE, cut)
-            cuts.is_idle(FIVE, cut)
+            for asked in (cuts.first_lot, cuts.second_lot, cuts.is_idle, cuts.failing_word, widened.widened,
+                          widened.double_word):
+                asked(FIVE, cut)
             cuts.cuttings(FIVE, cut, "abab")
-            cuts.failing_word(FIVE, cut)
+        for cut, later in itertools.product(plain.cuts(FOUR), repeat=2):
+            threes.middle_lot(FOUR, cut, later)
+            threes.failing_three(FOUR, cut, later)
 
 
 class Kept(unittest.TestCase):
     def test_right_arguments_are_not_changed_and_answers_stay(self):
-        for asked, names, _ in ASKED:
+        for asked, names, most in ASKED:
             for arguments in itertools.product(*[RIGHT[name] for name in names]):
-                before = copy.deepcopy(arguments)
-                told = asked(*arguments)
-                self.assertEqual(asked(*arguments), told)
-                self.assertEqual(asked(*before), told)
-                self.assertEqual(arguments, before)
-                self.assertEqual(repr(arguments), repr(before))
+                if len(arguments[0][1]) <= most:
+                    before = copy.deepcopy(arguments)
+                    answer = asked(*arguments)
+                    self.assertEqual(asked(*arguments), answer)
+                    self.assertEqual(asked(*before), answer)
+                    self.assertEqual(arguments, before)
+                    self.assertEqual(repr(arguments), repr(before))
 
     def test_values_with_lists_are_not_changed(self):
         value = [2, [[0, 1], [1, 1]], [1], "a", (0, [1])]
@@ -119,30 +173,68 @@ class Kept(unittest.TestCase):
         self.assertIs(machines.is_machine((2, value, value)), False)
         self.assertIs(machines.is_word(FEW, value), False)
         self.assertIs(cuts.is_cut(FEW, value), False)
+        self.assertIs(products.is_no_product(FEW, value), False)
         self.assertEqual(value, before)
+        self.assertEqual(repr(value), repr(before))
+
+    def test_papers_are_not_changed(self):
+        for machine in plain.PRIMES:
+            paper = products.no_product(machine)
+            for value in (paper, paper[::-1], paper[:-1], paper + paper, [list(row) for row in paper]):
+                before = copy.deepcopy(value)
+                self.assertIs(products.is_no_product(machine, value), value == paper)
+                self.assertEqual(repr(value), repr(before))
 
     def test_a_told_list_is_a_new_one_each_time(self):
         for word in ("", "a", "ab", "aba", "abbb"):
             for cut in plain.cuts(FEW):
-                told = cuts.cuttings(FEW, cut, word)
+                answer = cuts.cuttings(FEW, cut, word)
                 right = plain.cuttings(FEW, cut, word)
-                self.assertEqual(told, right)
-                told.append(99)
+                self.assertEqual(answer, right)
+                answer.append(99)
                 again = cuts.cuttings(FEW, cut, word)
-                self.assertIsNot(again, told)
+                self.assertIsNot(again, answer)
                 self.assertEqual(again, right)
 
+    def test_told_lists_of_products_widened_and_threes_are_new_ones(self):
+        every = (2, ((0, 0),), (0,))
+        for machine in [every, FEW, FOUR, FIVE, plain.row(4, (1, 2)), plain.row(4, (), 3)] + plain.PRIMES:
+            for asked in (products.splitting_cuts, products.no_product, widened.closed_cuts, threes.three_cuts):
+                if asked is threes.three_cuts and len(machine[1]) > 4:
+                    continue
+                answer = asked(machine)
+                right = copy.deepcopy(answer)
+                if answer is not None:
+                    self.assertIs(type(answer), list)
+                    self.assertIsNot(asked(machine), answer)
+                    answer.reverse()
+                    answer.append(99)
+                    del answer[0]
+                    self.assertEqual(asked(machine), right)
+                    answer.clear()
+                    self.assertEqual(asked(machine), right)
+        # A changed paper is a value like any other one: what was told stays as it was.
+        paper = products.no_product(plain.PRIMES[-1])
+        paper.pop()
+        self.assertIs(products.is_no_product(plain.PRIMES[-1], paper), False)
+        self.assertIs(products.is_no_product(plain.PRIMES[-1], products.no_product(plain.PRIMES[-1])), True)
+
     def test_no_lists_where_tuples_are_told(self):
-        for told in (smallest.smallest(FIVE), cuts.first_lot(FIVE, (0, 1)), cuts.second_lot(FIVE, (0, 1))):
-            for place in plain.places(told):
-                self.assertIn(type(plain.part_at(told, place)), (int, tuple))
+        answers = [smallest.smallest(FIVE), cuts.first_lot(FIVE, (0, 1)), cuts.second_lot(FIVE, (0, 1)),
+                   widened.widened(FIVE, (0, 1)), told.reached_by(FIVE, SIX), told.rest_of(FIVE, SIX),
+                   told.head_of(FIVE, SIX), threes.middle_lot(FOUR, (0, 1), (1, 2))]
+        for answer in answers + products.splitting_cuts(FIVE) + widened.closed_cuts(FIVE) + threes.three_cuts(FOUR):
+            for place in plain.places(answer):
+                self.assertIn(type(plain.part_at(answer, place)), (int, tuple))
 
     def test_answers_after_refusals(self):
-        told = cuts.failing_word(FIVE, (0, 1))
-        for wrong in NO_MACHINES + [SIX]:
-            with self.assertRaises(SeamError):
-                cuts.failing_word(wrong, (0, 1))
-            self.assertEqual(cuts.failing_word(FIVE, (0, 1)), told)
+        for asked, names, most in ASKED:
+            arguments = [RIGHT[name][0] for name in names]
+            answer = asked(*arguments)
+            for wrong in NO_MACHINES + [GREAT] * (most < 32):
+                with self.assertRaises(SeamError):
+                    asked(wrong, *arguments[1:])
+                self.assertEqual(asked(*arguments), answer)
 
 
 if __name__ == "__main__":

@@ -200,6 +200,107 @@ class Smallest(unittest.TestCase):
                 smallest(value)
 
 
+class GreatMachines(unittest.TestCase):
+    """Machines of twenty to thirty-two standings: drawn ones, rings, rows, and rows with a standing doubled."""
+
+    SIZES = (20, 23, 27, 31, 32)
+
+    def check_smallest(self, machine):
+        told = smallest(machine)
+        self.assertTrue(plain.is_machine(told))
+        self.assertTrue(plain.is_smallest(told))
+        self.assertIsNone(plain.parting_word(machine, told))
+        self.assertIsNone(parting_word(machine, told))
+        return told
+
+    def doubled_row(self, many, ends, at, letters):
+        """A row of one standing fewer, and the one at that place doubled: the first letter leads to the other one."""
+        _, moves, _ = plain.row(many - 1, (), letters)
+        twin = many - 1
+        moves = list(moves) + [moves[at]]
+        moves[at - 1] = (twin,) + moves[at - 1][1:]
+        return letters, tuple(moves), tuple(ends) + ((twin,) if at in ends else ())
+
+    def test_drawn_machines(self):
+        rng = random.Random(21)
+        parted = 0
+        for letters in (1, 2, 3):
+            for many in self.SIZES:
+                for ends in (1, 2, many // 2, many - 1):
+                    chosen = tuple(sorted(rng.sample(range(many), ends)))
+                    machine = plain.some_machine(rng, letters, many)[:2] + (chosen,)
+                    told = self.check_smallest(machine)
+                    self.assertEqual(smallest(plain.renumbered(rng, machine)), told)
+                    self.assertIsNone(parting_word(machine, plain.renumbered(rng, machine)))
+                    for other in (plain.with_other_end(machine, rng.randrange(many)),
+                                  plain.some_machine(rng, letters, rng.choice(self.SIZES)),
+                                  plain.row(many, (many - 1,), letters), plain.ring(many, (many - 1,), letters)):
+                        least = plain.parting_word(machine, other)
+                        parted += least is not None
+                        self.assertEqual(parting_word(machine, other), least)
+                        self.assertEqual(parting_word(other, machine), least)
+                        self.assertEqual(smallest(other) == told, least is None)
+        self.assertGreater(parted, 150)
+
+    def test_rings(self):
+        for letters in (1, 2, 3):
+            for many in self.SIZES:
+                for at in (0, 1, many - 1):
+                    machine = plain.ring(many, (at,), letters)
+                    self.assertEqual(self.check_smallest(machine), machine)
+                    self.assertIsNone(parting_word(machine, machine))
+                    self.assertEqual(parting_word(machine, plain.ring(many, (), letters)), "a" * at)
+                    self.assertEqual(parting_word(machine, plain.row(many, (at,), letters)),
+                                     "a" * (at + many if at < many - 1 else many))
+                machine = plain.ring(many, range(0, many, 2), letters)
+                self.assertEqual(smallest(machine), plain.ring(2, (0,), letters) if many % 2 == 0 else machine)
+        self.assertEqual(parting_word(plain.ring(31, (0,)), plain.ring(32, (0,))), "a" * 31)
+        self.assertEqual(parting_word(plain.ring(20, (19,), 2), plain.ring(32, (19,), 2)), "a" * 39)
+        self.assertEqual(smallest(plain.ring(32, range(3, 32, 4), 3)), plain.ring(4, (3,), 3))
+        self.assertEqual(smallest(plain.ring(30, range(0, 30, 5))), plain.ring(5, (0,)))
+
+    def test_rows(self):
+        for letters in (1, 2, 3):
+            for many in self.SIZES:
+                last = plain.row(many, (many - 1,), letters)
+                self.assertEqual(self.check_smallest(last), last)
+                self.assertEqual(parting_word(last, plain.row(many - 1, (many - 2,), letters)), "a" * (many - 2))
+                just = plain.row(many, (many - 2,), letters)
+                self.assertEqual(self.check_smallest(just), just)
+                self.assertEqual(parting_word(last, just), "a" * (many - 2))
+                self.assertEqual(smallest(plain.row(many, (3,), letters)), plain.row(5, (3,), letters))
+                self.assertEqual(smallest(plain.row(many, range(many), letters)), plain.row(1, (0,), letters))
+                self.assertEqual(smallest(plain.row(many, range(7, many), letters)), plain.row(8, (7,), letters))
+
+    def test_rows_with_a_standing_doubled(self):
+        for letters in (1, 2, 3):
+            for many in self.SIZES:
+                for at in (1, 2, many // 2, many - 3, many - 2):
+                    for ends in ((many - 2,), (many - 3,), (at,), (0, at), range(0, many - 1, 2)):
+                        ends = tuple(ends)
+                        row = plain.row(many - 1, ends, letters)
+                        machine = self.doubled_row(many, ends, at, letters)
+                        self.assertIsNone(parting_word(machine, row))
+                        self.assertEqual(self.check_smallest(machine), smallest(row))
+                        # With just one of the two standings an end, the two are parted by the word that leads there.
+                        other = plain.with_other_end(machine, many - 1)
+                        self.assertEqual(parting_word(machine, other), "a" * at)
+                        self.check_smallest(other)
+
+    def test_32_standings_in_the_order_of_their_least_words(self):
+        rng = random.Random(22)
+        for machine in (plain.row(32, (31,), 2), plain.ring(32, (31,), 3)):
+            for _ in range(5):
+                self.assertEqual(smallest(plain.renumbered(rng, machine)), machine)
+        # A tree of all words of at most three letters, of two kinds, and what is behind them.
+        moves = tuple((2 * at + 1, 2 * at + 2) for at in range(15)) + tuple(
+            (31, (at + 1) if at < 30 else 15) for at in range(15, 31)) + ((31, 31),)
+        tree = 2, moves, (15, 31)
+        self.assertEqual(self.check_smallest(tree), tree)
+        for _ in range(5):
+            self.assertEqual(smallest(plain.renumbered(rng, tree)), tree)
+
+
 class SmallestOf(unittest.TestCase):
     """The smallest machine of a lot may have more standings than a machine can have."""
 
