@@ -1,6 +1,7 @@
 """Cuts of machines, their lots, and the words that can't be cut."""
 
-from seamlots.machines import LETTERS, are_standings, check_few, check_machine, check_word, standings_along, takes
+from seamlots.machines import LETTERS, are_ascending, check_few, check_machine, check_word, is_word_of
+from seamlots.machines import standings_along, takes
 from seamlots.search import least_word
 from seamlots.smallest import smallest, smallest_of
 from seamlots.wrongs import NoCut
@@ -12,7 +13,7 @@ def is_cut(machine, value):
     """True if the value is a cut of the machine, otherwise False."""
     check_machine(machine)
     check_few(machine, MOST_CUT_STANDINGS)
-    return _has_cut(machine, value)
+    return has_cut(machine, value)
 
 
 def first_lot(machine, cut):
@@ -62,9 +63,14 @@ def failing_word(machine, cut):
         lambda row: is_bad(row, ends))
 
 
+def has_cut(machine, value):
+    """True if the value is a cut of the machine, however many standings it has, otherwise False."""
+    return are_ascending(value, len(machine[1])) and len(value) > 0
+
+
 def check_cut(machine, value):
     """Raises NoCut if the value is not a cut of the machine."""
-    if not _has_cut(machine, value):
+    if not has_cut(machine, value):
         raise NoCut("this is no cut of the machine")
 
 
@@ -87,6 +93,13 @@ def all_cuts(machine):
 def is_failing(machine, cut, word):
     """True if the word is a failing word of the cut, otherwise False."""
     return takes(machine, word) and not cuttings(machine, cut, word)
+
+
+def is_paper(machine, cuts, value, is_right):
+    """True if the value is a list of tuples (cut, word): these cuts in their order, each with a word that is right."""
+    if not isinstance(value, list) or len(value) != len(cuts):
+        return False
+    return all([_is_paper_row(machine, cut, row, is_right) for cut, row in zip(cuts, value)])
 
 
 def lot_between(machine, part, goals):
@@ -150,13 +163,19 @@ def _row(standing, parts, cut):
     return (standing, inmost(parts))
 
 
+def _is_paper_row(machine, cut, value, is_right):
+    if not isinstance(value, tuple) or len(value) != 2:
+        return False
+    told, word = value
+    # To Python (False, True) and (0, 1) are equal, so it must be asked first whether this is a cut at all.
+    if not has_cut(machine, told) or told != cut:
+        return False
+    return is_word_of(machine[0], word) and is_right(machine, cut, word)
+
+
 def _has_one_within(part, parts):
     return any([other != part and is_within(other, part) for other in parts])
 
 
 def _led_into(moves, part, number):
     return tuple([standing for standing, row in enumerate(moves) if row[number] in part])
-
-
-def _has_cut(machine, value):
-    return are_standings(value, len(machine[1])) and len(value) > 0

@@ -1,6 +1,6 @@
 """Machines of standings and the words that they take."""
 
-from seamlots.wrongs import NoMachine, NotAlike, NoWord, TooMany
+from seamlots.wrongs import NoLetters, NoMachine, NotAlike, NoWord, TooMany
 
 LETTERS = "abc"
 MOST_STANDINGS = 32
@@ -11,13 +11,13 @@ def is_machine(value):
     if not isinstance(value, tuple) or len(value) != 3:
         return False
     letters, moves, ends = value
-    return is_letters(letters) and _are_moves(moves, letters) and are_standings(ends, len(moves))
+    return is_letters(letters) and _are_moves(moves, letters) and are_ascending(ends, len(moves))
 
 
 def is_word(machine, value):
     """True if the value is a word of the machine, otherwise False."""
     check_machine(machine)
-    return _has_word(machine, value)
+    return is_word_of(machine[0], value)
 
 
 def standing_of(machine, word):
@@ -43,16 +43,22 @@ def is_letters(value):
     return is_integer(value) and 1 <= value <= len(LETTERS)
 
 
-def are_standings(value, many):
-    """True if the value is an ascending tuple of some of the standings below many, otherwise False."""
+def are_ascending(value, many):
+    """True if the value is an ascending tuple of some of the integers from 0 on and below many, otherwise False."""
     if not isinstance(value, tuple):
         return False
     last = -1
-    for standing in value:
-        if not is_integer(standing) or not last < standing < many:
+    for one in value:
+        if not is_integer(one) or not last < one < many:
             return False
-        last = standing
+        last = one
     return True
+
+
+def is_word_of(letters, value):
+    """True if the value is a word of so many letters, otherwise False."""
+    own_letters = LETTERS[:letters]
+    return isinstance(value, str) and all(letter in own_letters for letter in value)
 
 
 def standings_along(machine, word):
@@ -70,9 +76,15 @@ def check_machine(value):
         raise NoMachine("this is no machine")
 
 
+def check_letters(value):
+    """Raises NoLetters if the value is not a number of letters."""
+    if not is_letters(value):
+        raise NoLetters("this is no number of letters")
+
+
 def check_word(machine, value):
     """Raises NoWord if the value is not a word of the machine."""
-    if not _has_word(machine, value):
+    if not is_word_of(machine[0], value):
         raise NoWord("this is no word of the machine")
 
 
@@ -98,8 +110,3 @@ def _is_row(value, letters, many):
     if not isinstance(value, tuple) or len(value) != letters:
         return False
     return all([is_integer(standing) and 0 <= standing < many for standing in value])
-
-
-def _has_word(machine, value):
-    own_letters = LETTERS[:machine[0]]
-    return isinstance(value, str) and all(letter in own_letters for letter in value)

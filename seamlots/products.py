@@ -1,7 +1,7 @@
 """Products, machines that are split by a cut, and papers that a machine is none."""
 
-from seamlots.cuts import MOST_CUT_STANDINGS, all_cuts, failing_word, is_cut, is_failing, is_idle
-from seamlots.machines import check_few, check_machine, is_word
+from seamlots.cuts import MOST_CUT_STANDINGS, all_cuts, failing_word, is_failing, is_idle, is_paper
+from seamlots.machines import check_few, check_machine
 
 
 def splitting_cuts(machine):
@@ -27,23 +27,10 @@ def no_product(machine):
 
 def is_no_product(machine, value):
     """True if the value is a paper that the machine is no product, otherwise False."""
-    cuts = _cuts_not_idle(machine)
-    if not isinstance(value, list) or len(value) != len(cuts):
-        return False
-    return all([_is_row(machine, cut, row) for cut, row in zip(cuts, value)])
+    return is_paper(machine, _cuts_not_idle(machine), value, is_failing)
 
 
 def _cuts_not_idle(machine):
     check_machine(machine)
     check_few(machine, MOST_CUT_STANDINGS)
     return [cut for cut in all_cuts(machine) if not is_idle(machine, cut)]
-
-
-def _is_row(machine, cut, value):
-    if not isinstance(value, tuple) or len(value) != 2:
-        return False
-    told, word = value
-    # To Python (False, True) and (0, 1) are equal, so it must be asked first whether this is a cut at all.
-    if not is_cut(machine, told) or told != cut:
-        return False
-    return is_word(machine, word) and is_failing(machine, cut, word)

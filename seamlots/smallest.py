@@ -28,6 +28,12 @@ def smallest(machine):
         lambda standing: standing in ends)
 
 
+def takes_some_word(machine):
+    """True if the machine takes some word, otherwise False."""
+    # A smallest machine reaches all its standings, so each of its ends is one of a word.
+    return len(smallest(machine)[2]) > 0
+
+
 def smallest_of(letters, start, step, is_end):
     """The smallest machine of the words that lead from the start to an end, step as in search; raises TooMany."""
     states, rows = all_states(letters, start, step)

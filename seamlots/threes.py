@@ -1,9 +1,9 @@
 """Three lots, made by two cuts of a machine."""
 
-from seamlots.cuts import check_cut, has_longer_word, inmost, is_any_within, led_on, lot_between
+from seamlots.chains import failing_along
+from seamlots.cuts import check_cut, has_longer_word, lot_between
 from seamlots.machines import check_few, check_machine
 from seamlots.products import splitting_cuts
-from seamlots.search import least_word
 
 MOST_STANDINGS_OF_THREES = 4
 
@@ -17,27 +17,7 @@ def middle_lot(machine, cut, later):
 def failing_three(machine, cut, later):
     """The least word that the machine takes and that is no word of the three lots, or None."""
     _check_cuts(machine, cut, later)
-    letters, moves, ends = machine
-
-    # A state is the standing, the sets to which the middle words begun so far lead, and those of the last words.
-    def state_of(standing, middles, lasts):
-        if standing in cut:
-            middles = middles + [cut]
-        if is_any_within(middles, later):
-            lasts = lasts + [later]
-        return (standing, inmost(middles), inmost(lasts))
-
-    def step(state, number):
-        standing, middles, lasts = state
-        return state_of(
-            moves[standing][number],
-            [led_on(moves, part, number) for part in middles],
-            [led_on(moves, part, number) for part in lasts])
-
-    def is_failing_state(state):
-        return state[0] in ends and not is_any_within(state[2], ends)
-
-    return least_word(letters, state_of(0, [], []), step, is_failing_state)
+    return failing_along(machine, (cut, later))
 
 
 def three_cuts(machine):

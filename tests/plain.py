@@ -8,6 +8,10 @@ import itertools
 import random
 
 
+class TooGreat(LookupError):
+    """More states would have to be looked at than was asked for."""
+
+
 def words(letters, longest):
     """All words of so many letters and of at most that length, the less ones first."""
     return ["".join(word) for many in range(longest + 1) for word in itertools.product("abc"[:letters], repeat=many)]
@@ -58,7 +62,7 @@ def least(some_words):
 def walked(letters, start, step, most=None):
     """A dict of all states to which words lead from the start, each with its least word; step takes a letter.
 
-    LookupError if there are more than so many states.
+    TooGreat if there are more than so many states.
     """
     told = {start: ""}
     rim = [start]
@@ -72,7 +76,7 @@ def walked(letters, start, step, most=None):
                     found[to] = word
         told.update(found)
         if most is not None and len(told) > most:
-            raise LookupError
+            raise TooGreat
         rim = sorted(found, key=lambda state: found[state])
     return told
 
@@ -144,7 +148,7 @@ def is_idle(machine, cut):
 
 
 def failing_word(machine, cut, most):
-    """The least failing word, or None; LookupError if more than so many states would be looked at."""
+    """The least failing word, or None; TooGreat if more than so many states would be looked at."""
     def state(standing, sets):
         return standing, sets | ({frozenset(cut)} if standing in cut else set())
 
@@ -216,7 +220,7 @@ def widened(machine, cut):
 
 
 def double_word(machine, cut, most):
-    """The least double word, or None; LookupError if more than so many states would be looked at."""
+    """The least double word, or None; TooGreat if more than so many states would be looked at."""
     def state(standing, many):
         many = dict(many)
         if standing in cut:
@@ -244,7 +248,7 @@ def ahead_of(machine, second):
 
 
 def lacking_word(machine, first, most):
-    """The least lacking word, or None; LookupError if more than so many states would be looked at."""
+    """The least lacking word, or None; TooGreat if more than so many states would be looked at."""
     reached = frozenset(reached_by(machine, first))
 
     def state(standing, own, sets):
@@ -277,7 +281,7 @@ def short_failing_threes(machine, cut, later):
 
 
 def failing_three(machine, cut, later, most):
-    """The least failing word of three lots, or None; LookupError if more than so many states would be looked at."""
+    """The least failing word of three lots, or None; TooGreat if more than so many states would be looked at."""
     def state(standing, middles, lasts):
         middles = middles | ({frozenset(cut)} if standing in cut else set())
         ready = any(part <= set(later) for part in middles)

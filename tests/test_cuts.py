@@ -225,7 +225,7 @@ class FailingWord(unittest.TestCase):
             for cut in plain.cuts(machine):
                 try:
                     least = plain.failing_word(machine, cut, 400)
-                except LookupError:
+                except plain.TooGreat:
                     continue
                 checked += 1
                 self.assertEqual(failing_word(machine, cut), least, (machine, cut))

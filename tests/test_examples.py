@@ -59,6 +59,62 @@ STAGES = {
 >>> [middle_lot(machine, (0,), (1,)), failing_three(machine, (0,), (1,)), three_cuts(machine)]
 [(1, ((1,), (2,), (2,)), (1,)), None, []]
 """,
+    "stars": """
+>>> from seamlots.stars import is_closed, open_pair, root_of, starred
+>>> machine = (1, ((1,), (2,), (3,), (3,)), (2,))
+>>> [starred(machine), is_closed(machine), open_pair(machine), root_of((1, ((1,), (0,)), (0,)))]
+[(1, ((1,), (0,)), (0,)), False, ('aa', 'aa'), (1, ((1,), (2,), (3,), (3,)), (2,))]
+""",
+    "patterns": """
+>>> from seamlots.patterns import is_pattern, machine_of
+>>> pattern = ('then', ('many', ('word', 'a')), ('word', 'b'))
+>>> [is_pattern(2, pattern), is_pattern(1, pattern), machine_of(2, pattern)]
+[True, False, (2, ((0, 1), (2, 2), (2, 2)), (1,))]
+""",
+    "lengths": """
+>>> from seamlots.lengths import is_lengths, sum_pairs, sums
+>>> [is_lengths((0, 2, 3)), sums((0, 1), (0, 2)), sum_pairs((0, 1, 2, 3)), sum_pairs((0, 1, 3))]
+[True, (0, 1, 2, 3), [((0, 1), (0, 1, 2)), ((0, 1, 2), (0, 1))], []]
+""",
+    "shelf": """
+>>> from seamlots.shelf import Shelf
+>>> shelf = Shelf()
+>>> shelf.put('one', (1, ((1,), (2,), (2,)), (1,)))
+>>> [shelf.join('two', 'then', 'one', 'one'), shelf.turn('all', 'many', 'one'), shelf.mark(), shelf.names()]
+[None, None, 0, ['all', 'one', 'two']]
+>>> [shelf.machine('all'), shelf.split('two'), shelf.split('one'), shelf.lacking('two', 'one'), shelf.parting('one', 'two')]
+[(1, ((0,),), (0,)), (1,), None, None, 'a']
+""",
+    "records": """
+>>> from seamlots.records import judge
+>>> machine = (2, ((0, 1), (1, 1)), (1,))
+>>> [judge(('splits', machine, (0,))), judge(('fails', machine, (0,), 'b')), judge(('twice', machine, (0,), 'ab'))]
+[('right',), ('wrong', 3), ('right',)]
+""",
+    "inner": """
+>>> from seamlots.inner import failing_inner, inner_cuts, inner_places, no_inner
+>>> machine = (1, ((1,), (2,), (2,)), (2,))
+>>> [inner_places(machine, (1, 2), 'aaa'), failing_inner(machine, (1,)), failing_inner(machine, (2,)), inner_cuts(machine)]
+[[1, 2], None, 'aa', [(1,), (1, 2)]]
+>>> [no_inner((1, ((1,), (1,)), (0,))), no_inner((1, ((0,),), ()))]
+[[((0,), ''), ((0, 1), ''), ((1,), '')], []]
+""",
+    "chains": """
+>>> from seamlots.chains import failing_chain, way_of
+>>> machine = (1, ((1,), (2,), (2,)), (2,))
+>>> [way_of(machine, (0,), (1,)), failing_chain(machine, ((1,), (2,))), failing_chain(machine, ((1,), (1,)))]
+[(1, ((1,), (2,), (2,)), (1,)), None, None]
+""",
+    "papers": """
+>>> from seamlots.papers import idle_paper, is_idle_paper, is_split_paper, live_words, split_paper
+>>> machine = (1, ((1,), (2,), (2,)), (1,))
+>>> [split_paper(machine, (0,)), split_paper(machine, (2,)), live_words(machine, (0,))]
+[[(0, ((0,),)), (1, ((1,),)), (2, ((2,),))], None, None]
+>>> [idle_paper(machine, (0,)), idle_paper(machine, (1,)), is_idle_paper(machine, (1,), ('second', ((2,),)))]
+[('first', (1, 2)), ('second', ((2,),)), True]
+>>> [live_words((2, ((0, 1), (1, 1)), (1,)), (0,)), is_split_paper(machine, (0,), [])]
+[('a', 'b'), False]
+""",
 }
 
 

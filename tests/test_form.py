@@ -20,7 +20,21 @@ INTERFACE = {
     "told": ["reached_by(machine, first)", "rest_of(machine, first)", "head_of(machine, second)",
              "lacking_word(machine, first)"],
     "threes": ["middle_lot(machine, cut, later)", "failing_three(machine, cut, later)", "three_cuts(machine)"],
+    "stars": ["starred(machine)", "is_closed(machine)", "open_pair(machine)", "root_of(machine)"],
+    "patterns": ["is_pattern(letters, value)", "machine_of(letters, pattern)"],
+    "lengths": ["is_lengths(value)", "sums(one, other)", "sum_pairs(lengths)"],
+    "shelf": ["Shelf"],
+    "records": ["judge(record)"],
+    "inner": ["inner_places(machine, cut, word)", "failing_inner(machine, cut)", "inner_cuts(machine)",
+              "no_inner(machine)", "is_no_inner(machine, value)"],
+    "chains": ["way_of(machine, cut, later)", "is_chain(machine, value)", "failing_chain(machine, chain)"],
+    "papers": ["split_paper(machine, cut)", "is_split_paper(machine, cut, value)", "idle_paper(machine, cut)",
+               "is_idle_paper(machine, cut, value)", "live_words(machine, cut)"],
 }
+METHODS = ["__init__(self)", "put(self, name, machine)", "join(self, name, way, one, other)",
+           "turn(self, name, way, one)", "remove(self, name)", "mark(self)", "back(self, number)", "marks(self)",
+           "names(self)", "machine(self, name)", "equal_names(self)", "parting(self, one, other)",
+           "split(self, name)", "lacking(self, name, first)"]
 
 
 class Form(unittest.TestCase):
@@ -55,6 +69,23 @@ class Form(unittest.TestCase):
             defined = [node.name for node in body if isinstance(node, ast.ClassDef)]
             defined += [f"{node.name}({ast.unparse(node.args)})" for node in body if isinstance(node, ast.FunctionDef)]
             self.assertEqual([told for told in listed if told not in defined], [])
+
+    def test_the_methods_of_the_shelf_are_defined_in_its_class(self):
+        body = ast.parse((PACKAGE / "shelf.py").read_text()).body
+        own = next(node for node in body if isinstance(node, ast.ClassDef) and node.name == "Shelf").body
+        defined = [f"{node.name}({ast.unparse(node.args)})" for node in own if isinstance(node, ast.FunctionDef)]
+        self.assertEqual([told for told in METHODS if told not in defined], [])
+
+    def test_no_two_files_import_from_each_other(self):
+        imports = {}
+        for path in self.files():
+            nodes = ast.walk(ast.parse(path.read_text()))
+            imports[path.stem] = {node.module.split(".")[1] for node in nodes if isinstance(node, ast.ImportFrom)}
+        while imports:
+            free = [name for name, told in imports.items() if not told & set(imports)]
+            self.assertNotEqual(free, [])
+            for name in free:
+                del imports[name]
 
 
 if __name__ == "__main__":

@@ -79,7 +79,8 @@ class IsMachine(unittest.TestCase):
         for ends in ((), (0,), (1,), (2,), (0, 1), (0, 2), (1, 2), (0, 1, 2)):
             self.assertIs(is_machine(TWO[:2] + (ends,)), True)
         for ends in ((0, 0), (1, 0), (2, 1), (0, 2, 1), (1, 1), (0, 1, 1), (0, 1, 2, 2), (0, 1, 2, 3), (3,), (-1, 0),
-                     [], [0], "", "0", None, 0, False, True, (False,), (False, True), (0, True), (None,), ((),), ((0,),)):
+                     [], [0], "", "0", None, 0, False, True, (False,), (False, True), (0, True), (None,), ((),),
+                     ((0,),)):
             self.assertIs(is_machine(TWO[:2] + (ends,)), False, ends)
 
     def test_other_values(self):

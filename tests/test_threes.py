@@ -99,7 +99,7 @@ class FailingThree(unittest.TestCase):
         for machine, cut, later in THREES:
             try:
                 least = plain.failing_three(machine, cut, later, 300)
-            except LookupError:
+            except plain.TooGreat:
                 continue
             checked[least is None] += 1
             self.assertEqual(failing_three(machine, cut, later), least, (machine, cut, later))
@@ -177,7 +177,7 @@ class ThreeCuts(unittest.TestCase):
                 for pair in rng.sample(pairs, min(len(pairs), 12)) + told[:5]:
                     try:
                         splits = plain.failing_three(machine, *pair, 400) is None
-                    except LookupError:
+                    except plain.TooGreat:
                         continue
                     checked[splits] += 1
                     self.assertIs(pair in told, splits, (machine, pair))
